@@ -1,0 +1,1 @@
+"""Sungbyturns: songs whose refrains rotate through their verses."""

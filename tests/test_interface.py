@@ -1,0 +1,35 @@
+"""Names and arguments of the functions, each in the file that the interface names."""
+
+import importlib
+import inspect
+import unittest
+
+FUNCTIONS = {
+    "books": {"reachable_refrains": ["book"]},
+    "states": {
+        "initial_state": ["book"],
+        "next_words": ["book", "state", "count"],
+    },
+    "positions": {
+        "word_at": ["book", "state", "number"],
+        "advance": ["book", "state", "count"],
+        "count_words": ["book", "state", "count"],
+        "find_word": ["book", "state", "word", "number"],
+        "find_start": ["book", "state", "refrain", "number"],
+    },
+}
+
+
+class InterfaceTest(unittest.TestCase):
+    def test_functions(self):
+        for file, functions in FUNCTIONS.items():
+            module = importlib.import_module("sungbyturns." + file)
+            for name, parameters in functions.items():
+                with self.subTest(file=file, name=name):
+                    function = getattr(module, name)
+                    self.assertEqual(function.__module__, module.__name__)
+                    self.assertEqual(list(inspect.signature(function).parameters), parameters)
+
+
+if __name__ == "__main__":
+    unittest.main()

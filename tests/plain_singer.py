@@ -40,6 +40,15 @@ def behind(book, path):
     return path
 
 
+def sing_songs(book, turns, songs):
+    """Sing complete songs; return the list of their words and the turns afterwards."""
+    turns = list(turns)
+    words = []
+    for _ in range(songs):
+        words.extend(what for kind, what, _ in perform(book, turns, 0, ()) if kind == "word")
+    return words, tuple(turns)
+
+
 class Record:
     """What a plain singer heard in the first `count` words from a state on.
 

@@ -1,5 +1,7 @@
 """Books that several tests use."""
 
+import random
+
 SONG = ((("la", 1), (1, "lu")), (("a",), ("b",), ("c",)))
 
 # Refrain 2 cannot be reached, refrain 3 only through refrain 1.
@@ -39,6 +41,22 @@ def sieve(height=60):
     return tuple(rows) + ((("y",),),)
 
 
+def medley(height=60):
+    """One to four verses of up to six items, several refrains in most; each seventh refrain is never sung."""
+    rows = []
+    for number in range(height - 1):
+        later = [after for after in range(number + 1, height) if after % 7 != 3][:3] or [height - 1]
+        near, far = later[0], later[-1]
+        verses = (
+            (near, "p", near, far),
+            (near, far) * 3,
+            ("q", far, "rest", near, "abcdefgh"),
+            ("r", near, near),
+        )
+        rows.append(verses[:number * number % 4 + 1])
+    return tuple(rows) + (LAST,)
+
+
 def random_book(chance):
     """A small book; `chance` is a random.Random."""
     size = chance.randint(1, 6)
@@ -76,3 +94,34 @@ def random_state(chance, book):
     while path and path[-1][2] == 0:
         path.pop()
     return tuple(turns), tuple(path)
+
+
+def random_places(seed, many):
+    """Books with a state between two songs and one that is often in the middle of a song."""
+    chance = random.Random(seed)
+    for _ in range(many):
+        book = random_book(chance)
+        yield book, ((0,) * len(book), ())
+        yield book, random_state(chance, book)
+
+
+def repetitive_book(chance):
+    """A small book in which verses are often equal and often have a single item."""
+    size = chance.randint(1, 7)
+    book = []
+    for number in range(size):
+        verses = tuple(repetitive_verse(chance, number, size) for _ in range(chance.choice((1, 1, 2))))
+        book.append(verses * chance.choice((1, 1, 2)))
+    return tuple(book)
+
+
+def repetitive_verse(chance, number, size):
+    items = []
+    for _ in range(chance.choice((1, 1, 1, 2, 3))):
+        later = list(range(number + 1, min(number + 4, size)))
+        items.append(chance.choice(["a", "b"] + later * 2))
+    return tuple(items)
+
+
+def random_turns(chance, book):
+    return tuple(chance.randrange(len(verses)) for verses in book)

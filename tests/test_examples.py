@@ -70,6 +70,74 @@ raises BadCount
 5
 """
 
+REWINDING = """
+>>> from sungbyturns.rewinding import rewind
+>>> book = ((("la", 1), (1, "lu")), (("a",), ("b",), ("c",)))
+>>> rewind(book, ((0, 2), ((0, 1, 1),)), 3)
+((0, 0), ())
+"""
+
+PERIODS = """
+>>> from sungbyturns.periods import advance_songs
+>>> book = ((("la", 1), (1, "lu")), (("a",), ("b",), ("c",)))
+>>> advance_songs(book, (0, 0), 5)
+(10, (1, 2))
+
+>>> from sungbyturns.periods import period
+>>> book = ((("la", 1), (1, "lu")), (("a",), ("b",), ("c",)))
+>>> period(book)
+(6, 12)
+
+>>> from sungbyturns.periods import average_length
+>>> book = ((("la", 1), (1, "lu")), (("a",), ("b",), ("c",)))
+>>> average_length(book)
+(2, 1)
+
+>>> from sungbyturns.periods import frequencies
+>>> book = ((("la", 1), (1, "lu")), (("a",), ("b",), ("c",)))
+>>> sorted(frequencies(book).items())
+[('a', (1, 6)), ('b', (1, 6)), ('c', (1, 6)), ('la', (1, 4)), ('lu', (1, 4))]
+"""
+
+CERTIFICATES = """
+>>> from sungbyturns.certificates import make_certificate
+>>> book = ((("la", 1), (1, "lu")), (("a",), ("b",), ("c",)))
+>>> make_certificate(book, "a")
+(((1, 3), (1, 3)), (((0, 1), (0, 1)), ((0, 1), (2, 3), (1, 3))))
+
+>>> from sungbyturns.certificates import check_certificate, make_certificate
+>>> book = ((("la", 1), (1, "lu")), (("a",), ("b",), ("c",)))
+>>> check_certificate(book, "b", make_certificate(book, "a"))
+(1, 0)
+
+>>> from sungbyturns.certificates import check_certificate
+>>> book = ((("la", 1), (1, "lu")), (("a",), ("b",), ("c",)))
+>>> check_certificate(book, "a", ((), ()))
+raises BadCertificate
+
+>>> from sungbyturns.certificates import count_by_certificate, make_certificate
+>>> book = ((("la", 1), (1, "lu")), (("a",), ("b",), ("c",)))
+>>> count_by_certificate(book, "a", make_certificate(book, "a"), (0, 0), (1, 2), 5)
+(2, 1)
+
+>>> from sungbyturns.certificates import max_deviation
+>>> book = ((("la", 1), (1, "lu")), (("a",), ("b",), ("c",)))
+>>> max_deviation(book, "a")
+(2, 3)
+"""
+
+SIMPLIFYING = """
+>>> from sungbyturns.simplifying import simplify
+>>> simplify(((("la", 1), ("la", 1)), (("lu",),)), (1, 0))
+(((('la', 'lu'),),), (0,))
+
+>>> from sungbyturns.simplifying import first_difference
+>>> from sungbyturns.states import initial_state
+>>> book = ((("la", 1), (1, "lu")), (("a",), ("b",), ("c",)))
+>>> first_difference(book, initial_state(book), book, ((0, 1), ()), 9)
+2
+"""
+
 
 class ExamplesTest(unittest.TestCase):
     def test_books(self):
@@ -80,6 +148,18 @@ class ExamplesTest(unittest.TestCase):
 
     def test_positions(self):
         check_examples(self, POSITIONS)
+
+    def test_rewinding(self):
+        check_examples(self, REWINDING)
+
+    def test_periods(self):
+        check_examples(self, PERIODS)
+
+    def test_certificates(self):
+        check_examples(self, CERTIFICATES)
+
+    def test_simplifying(self):
+        check_examples(self, SIMPLIFYING)
 
 
 if __name__ == "__main__":

@@ -17,6 +17,23 @@ FUNCTIONS = {
         "find_word": ["book", "state", "word", "number"],
         "find_start": ["book", "state", "refrain", "number"],
     },
+    "rewinding": {"rewind": ["book", "state", "count"]},
+    "periods": {
+        "advance_songs": ["book", "turns", "songs"],
+        "period": ["book"],
+        "average_length": ["book"],
+        "frequencies": ["book"],
+    },
+    "certificates": {
+        "make_certificate": ["book", "word"],
+        "check_certificate": ["book", "word", "certificate"],
+        "count_by_certificate": ["book", "word", "certificate", "turns", "final_turns", "songs"],
+        "max_deviation": ["book", "word"],
+    },
+    "simplifying": {
+        "simplify": ["book", "turns"],
+        "first_difference": ["book", "state", "other_book", "other_state", "count"],
+    },
 }
 
 

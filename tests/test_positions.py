@@ -1,27 +1,17 @@
 """Points 4 to 7: positions, counts, and the positions of words and starts."""
 
-import random
 import unittest
 
 from sungbyturns.errors import BadBook, BadCount, BadRefrain, BadState
 from sungbyturns.positions import advance, count_words, find_start, find_word, word_at
 from sungbyturns.states import initial_state, next_words
 from tests.plain_singer import Record
-from tests.sample_books import NESTED, SONG, random_book, random_state, sieve, thicket, tower
+from tests.sample_books import NESTED, SONG, random_places, sieve, thicket, tower
 
 MOST = 10 ** 18
 BAD_BOOK = ((("a", 1),),)
 MIDDLE = ((0, 2), ((0, 1, 1),))
 BAD_STATE = ((0, 0), ((0, 0, 1),))
-
-
-def random_places(seed, many):
-    """Books with a state between two songs and one that is often in the middle of a song."""
-    chance = random.Random(seed)
-    for _ in range(many):
-        book = random_book(chance)
-        yield book, initial_state(book)
-        yield book, random_state(chance, book)
 
 
 class WordByWordTest(unittest.TestCase):

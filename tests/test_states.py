@@ -4,7 +4,10 @@ import random
 import unittest
 
 from sungbyturns.errors import BadBook, BadCount, BadState, BadTurns
+from sungbyturns.periods import advance_songs
 from sungbyturns.positions import advance, count_words, find_start, find_word, word_at
+from sungbyturns.rewinding import rewind
+from sungbyturns.simplifying import first_difference, simplify
 from sungbyturns.states import check_turns, initial_state, next_words
 from tests.plain_singer import Record
 from tests.sample_books import NESTED, SONG, random_book, random_state, thicket, tower
@@ -33,6 +36,8 @@ class TurnsTest(unittest.TestCase):
         for turns in ((), (0, 0, 0), (0, 0, 0, 0, 0), (3, 0, 0, 0), (0, 0, 1, 0), (0, -1, 0, 0), (0, 0, 0, 2)):
             with self.subTest(turns=turns), self.assertRaises(BadTurns):
                 check_turns(NESTED, turns)
+            self.assertRaises(BadTurns, advance_songs, NESTED, turns, 1)
+            self.assertRaises(BadTurns, simplify, NESTED, turns)
 
 
 # Of the book NESTED, whose verses are
@@ -88,14 +93,21 @@ class StateTest(unittest.TestCase):
             with self.subTest(state=state):
                 self.assertEqual(next_words(NESTED, state, 60), Record(NESTED, state, 60).words)
                 self.assertEqual(advance(NESTED, state, 0), state)
+                self.assertEqual(rewind(NESTED, state, 0), state)
+                self.assertEqual(advance(NESTED, rewind(NESTED, state, 60), 60), state)
 
     def test_bad_states(self):
         for what, state in BAD_STATES.items():
             with self.subTest(what):
-                for call in (next_words, word_at, advance, count_words):
-                    self.assertRaises(BadState, call, NESTED, state, 1)
+                for call in (next_words, word_at, advance, count_words, rewind):
+                    for count in (0, 1, -1, 10 ** 18 + 1):
+                        self.assertRaises(BadState, call, NESTED, state, count)
                 self.assertRaises(BadState, find_word, NESTED, state, "x", 1)
                 self.assertRaises(BadState, find_start, NESTED, state, 1, 1)
+                for count in (0, 1, -1, 5001):
+                    good = initial_state(NESTED)
+                    self.assertRaises(BadState, first_difference, NESTED, state, NESTED, good, count)
+                    self.assertRaises(BadState, first_difference, NESTED, good, NESTED, state, count)
 
     def test_deepest_path(self):
         book = tower()[:-1] + ((("a", "b"),),)

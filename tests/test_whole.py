@@ -4,12 +4,20 @@ import copy
 import unittest
 
 from sungbyturns.books import reachable_refrains
+from sungbyturns.certificates import check_certificate, count_by_certificate, make_certificate, max_deviation
 from sungbyturns.errors import SongError
+from sungbyturns.periods import advance_songs, average_length, frequencies, period
 from sungbyturns.positions import advance, count_words, find_start, find_word, word_at
+from sungbyturns.rewinding import rewind
+from sungbyturns.simplifying import first_difference, simplify
 from sungbyturns.states import initial_state, next_words
 from tests.sample_books import NESTED, SONG, thicket
 
 MIDDLE = ((1, 1, 0, 0), ((0, 0, 1), (1, 0, 1)))
+TURNS = (2, 1, 0, 1)
+CERTIFICATE = make_certificate(NESTED, "x")
+# Well formed, but of another word than the calls below name.
+OTHER_CERTIFICATE = make_certificate(NESTED, "fa")
 FAR = 10 ** 18
 
 CALLS = (
@@ -29,6 +37,22 @@ CALLS = (
     (find_start, (NESTED, MIDDLE, 0, 20)),
     (find_start, (NESTED, MIDDLE, 3, 20)),
     (find_start, (NESTED, MIDDLE, 2, 20)),
+    (rewind, (NESTED, MIDDLE, 0)),
+    (rewind, (NESTED, MIDDLE, 20)),
+    (rewind, (NESTED, MIDDLE, FAR)),
+    (advance_songs, (NESTED, TURNS, 0)),
+    (advance_songs, (NESTED, TURNS, FAR)),
+    (period, (NESTED,)),
+    (average_length, (NESTED,)),
+    (frequencies, (NESTED,)),
+    (make_certificate, (NESTED, "x")),
+    (check_certificate, (NESTED, "x", CERTIFICATE)),
+    (check_certificate, (NESTED, "x", OTHER_CERTIFICATE)),
+    (count_by_certificate, (NESTED, "x", CERTIFICATE, TURNS, (1, 1, 0, 0), FAR)),
+    (max_deviation, (NESTED, "x")),
+    (simplify, (NESTED, TURNS)),
+    (first_difference, (NESTED, MIDDLE, SONG, ((0, 0), ()), 5000)),
+    (first_difference, (NESTED, MIDDLE, NESTED, MIDDLE, 100)),
 )
 
 WRONG_CALLS = (
@@ -39,6 +63,17 @@ WRONG_CALLS = (
     (count_words, (NESTED, MIDDLE, -1)),
     (find_word, (NESTED, MIDDLE, "fa", 0)),
     (find_start, (NESTED, MIDDLE, 4, 1)),
+    (rewind, (NESTED, MIDDLE, FAR + 1)),
+    (advance_songs, (NESTED, TURNS, -1)),
+    (period, ((((0,),),),)),
+    (average_length, ((((0,),),),)),
+    (frequencies, ((((0,),),),)),
+    (make_certificate, ((((0,),),), "x")),
+    (check_certificate, (NESTED, "x", [list(CERTIFICATE[0]), list(CERTIFICATE[1])])),
+    (count_by_certificate, (NESTED, "x", OTHER_CERTIFICATE, TURNS, TURNS, 1)),
+    (max_deviation, ((((0,),),), "x")),
+    (simplify, (NESTED, TURNS + (0,))),
+    (first_difference, (NESTED, MIDDLE, SONG, ((0, 0), ()), 5001)),
 )
 
 
@@ -78,6 +113,10 @@ class WholeTest(unittest.TestCase):
             row.append(7)
         verses.pop()
         self.assertEqual(count_words(NESTED, MIDDLE, 50), expected)
+        shares = frequencies(NESTED)
+        expected = dict(shares)
+        shares.clear()
+        self.assertEqual(frequencies(NESTED), expected)
         _, verses = count_words((SONG[1],) * 3, ((0, 0, 0), ()), 1)
         verses[1][0] = 7
         self.assertEqual(verses, [[1, 0, 0], [7, 0, 0], [0, 0, 0]])
@@ -99,6 +138,32 @@ class WholeTest(unittest.TestCase):
         self.assertIs(type(counted[0]), dict)
         self.assertEqual({type(part) for part in [counted[1]] + counted[1]}, {list})
         self.assertEqual({type(starts) for row in counted[1] for starts in row}, {int})
+
+    def test_kinds_of_values_of_whole_songs(self):
+        self.check_state(rewind(NESTED, MIDDLE, 0))
+        self.check_state(rewind(NESTED, MIDDLE, 7))
+        for values in (period(thicket()), average_length(thicket()), max_deviation(thicket(), "a")):
+            self.check_integers(values, 2)
+        songs = advance_songs(NESTED, TURNS, FAR)
+        self.assertIs(type(songs), tuple)
+        self.check_integers(songs[1], 4)
+        shares = frequencies(NESTED)
+        self.assertIs(type(shares), dict)
+        for share in shares.values():
+            self.check_integers(share, 2)
+        self.check_integers(check_certificate(NESTED, "x", OTHER_CERTIFICATE), 2)
+        self.check_integers(count_by_certificate(NESTED, "x", CERTIFICATE, TURNS, TURNS, FAR), 2)
+        simple = simplify(NESTED, TURNS)
+        self.assertIs(type(simple), tuple)
+        book, turns = simple
+        self.check_integers(turns, 3)
+        self.assertEqual({type(verses) for verses in (book,) + book}, {tuple})
+        self.assertEqual({type(verse) for verses in book for verse in verses}, {tuple})
+        self.assertIs(type(first_difference(NESTED, MIDDLE, SONG, ((0, 0), ()), 5000)), int)
+
+    def check_integers(self, values, many):
+        self.assertIs(type(values), tuple)
+        self.assertEqual([type(value) for value in values], [int] * many)
 
     def check_state(self, state):
         self.assertIs(type(state), tuple)

@@ -1,6 +1,6 @@
 """Books: when they are valid, and which of their refrains can be sung."""
 
-from sungbyturns.errors import BadBook
+from sungbyturns.errors import BadBook, BadRefrain
 
 MOST_REFRAINS = 60
 MOST_VERSES = 4
@@ -44,6 +44,12 @@ def check_book(book):
         raise BadBook(0, -1)
     for refrain in range(len(book)):
         check_refrain(book, refrain)
+
+
+def check_number(book, refrain):
+    """Raise BadRefrain if a valid book has no refrain with a number."""
+    if not 0 <= refrain < len(book):
+        raise BadRefrain("there is no refrain with this number")
 
 
 def called_refrains(verses):

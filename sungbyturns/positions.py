@@ -1,8 +1,7 @@
 """Positions: the word at a position, counts up to it, and the positions of words and starts."""
 
-from sungbyturns.books import check_book, is_word, reachable_refrains
+from sungbyturns.books import check_book, check_number, is_word, reachable_refrains
 from sungbyturns.counts import MOST, check_count
-from sungbyturns.errors import BadRefrain
 from sungbyturns.states import check_state
 from sungbyturns.walks import Walk
 
@@ -54,8 +53,7 @@ def find_start(book, state, refrain, number):
     """Return how many words precede the start of a refrain with a number, or None."""
     check_book(book)
     check_state(book, state)
-    if not 0 <= refrain < len(book):
-        raise BadRefrain("there is no refrain with this number")
+    check_number(book, refrain)
     check_count(number, 1, MOST)
     if refrain not in reachable_refrains(book):
         return None

@@ -2,8 +2,8 @@
 
 from sungbyturns.books import check_book, is_word, reachable_refrains
 from sungbyturns.counts import check_count
+from sungbyturns.singing import Singer
 from sungbyturns.states import check_state, check_turns
-from sungbyturns.walks import Walk
 
 MOST_COMPARED = 5000
 
@@ -53,11 +53,11 @@ def first_difference(book, state, other_book, other_state, count):
     check_book(other_book)
     check_state(other_book, other_state)
     check_count(count, 0, MOST_COMPARED)
-    walk = Walk(book, state)
-    other_walk = Walk(other_book, other_state)
+    singer = Singer(book, state)
+    other_singer = Singer(other_book, other_state)
     for number in range(1, count + 1):
-        if walk.enter_word() != other_walk.enter_word():
+        if singer.enter_word() != other_singer.enter_word():
             return number
-        walk.step()
-        other_walk.step()
+        singer.step()
+        other_singer.step()
     return None

@@ -3,7 +3,7 @@
 from sungbyturns.books import check_book
 from sungbyturns.counts import check_count
 from sungbyturns.errors import BadState, BadTurns
-from sungbyturns.walks import Walk
+from sungbyturns.singing import Singer
 
 MOST_NEXT_WORDS = 200
 
@@ -59,10 +59,10 @@ def next_words(book, state, count):
     check_book(book)
     check_state(book, state)
     check_count(count, 0, MOST_NEXT_WORDS)
-    walk = Walk(book, state)
+    singer = Singer(book, state)
     sung = []
     for _ in range(count):
-        word = walk.enter_word()
-        sung.append((word, tuple(walk.path)))
-        walk.step()
+        word = singer.enter_word()
+        sung.append((word, tuple(singer.path)))
+        singer.step()
     return sung

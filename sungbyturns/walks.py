@@ -1,6 +1,7 @@
-"""Walks: singing a book from a state on, also by leaps over many words."""
+"""Walks: singing a book from a state on, by leaps over many words."""
 
 from sungbyturns.books import called_refrains, is_word
+from sungbyturns.singing import Singer
 
 
 def share_starts(turn, verses, starts):
@@ -30,28 +31,17 @@ def add_words(words, items, times):
             words[item] = words.get(item, 0) + times
 
 
-class Walk:
-    """A way through the words of a book.
+class Walk(Singer):
+    """A way through a book that is counted.
 
-    `turns` and `path` are the state that is reached, and `starts` has one list
-    per refrain: how often each of its verses started on the way.
+    `starts` has one list per refrain: how often each of its verses started on the way.
     """
 
     def __init__(self, book, state):
-        turns, path = state
-        self.book = book
-        self.turns = list(turns)
-        self.path = list(path)
+        super().__init__(book, state)
         self.starts = [[0] * len(verses) for verses in book]
         self.calls = [[called_refrains((verse,)) for verse in verses] for verses in book]
         self.first_rest = self.rest()
-
-    def state(self):
-        return tuple(self.turns), tuple(self.path)
-
-    def next_item(self):
-        refrain, verse, item = self.path[-1]
-        return self.book[refrain][verse][item]
 
     def rest(self):
         """Return the words of the verses on the path that are still to be sung."""
@@ -63,26 +53,8 @@ class Walk:
 
     def enter(self, refrain):
         """Start a refrain."""
-        verse = self.turns[refrain]
-        self.turns[refrain] = (verse + 1) % len(self.book[refrain])
-        self.starts[refrain][verse] += 1
-        self.path.append((refrain, verse, 0))
-
-    def enter_word(self):
-        """Start all refrains that start before the next word, and return this word."""
-        if not self.path:
-            self.enter(0)
-        while not is_word(self.next_item()):
-            self.enter(self.next_item())
-        return self.next_item()
-
-    def step(self):
-        """Go behind the next item, and out of the verses that end there."""
-        while self.path:
-            refrain, verse, item = self.path.pop()
-            if item + 1 < len(self.book[refrain][verse]):
-                self.path.append((refrain, verse, item + 1))
-                return
+        self.starts[refrain][self.turns[refrain]] += 1
+        super().enter(refrain)
 
     def table_of(self, refrain, times):
         """Return how often each verse starts if a refrain is sung some times from here on.

@@ -138,6 +138,205 @@ SIMPLIFYING = """
 2
 """
 
+INFERENCE = """
+>>> from sungbyturns.inference import infer_turns
+>>> book = ((("la", 1), (1, "lu")), (("a",), ("b",), ("c",)))
+>>> infer_turns(book, ["la", "c"])
+(1, (0, 2), ['a'])
+
+>>> from sungbyturns.inference import infer_turns
+>>> book = ((("la", 1), (1, "lu")), (("a",), ("b",), ("c",)))
+>>> infer_turns(book, [])
+(6, (None, None), ['a', 'b', 'c', 'la'])
+"""
+
+EDITING = """
+>>> from sungbyturns.editing import set_turn
+>>> book = ((("la", 1), (1, "lu")), (("a",), ("b",), ("c",)))
+>>> set_turn(book, ((0, 0), ()), 1, 2)
+((0, 2), ())
+
+>>> from sungbyturns.editing import set_turn
+>>> book = ((("la", 1), (1, "lu")), (("a",), ("b",), ("c",)))
+>>> set_turn(book, ((1, 0), ((0, 0, 1),)), 0, 0)
+raises RefrainBusy
+
+>>> from sungbyturns.editing import stop_song
+>>> book = ((("la", 1), (1, "lu")), (("a",), ("b",), ("c",)))
+>>> stop_song(book, ((1, 0), ((0, 0, 1),)))
+((1, 0), ())
+
+>>> from sungbyturns.editing import replace_verse
+>>> book = ((("la", 1), (1, "lu")), (("a",), ("b",), ("c",)))
+>>> replace_verse(book, 1, 2, ("d",))
+((('la', 1), (1, 'lu')), (('a',), ('b',), ('d',)))
+
+>>> from sungbyturns.editing import replace_verse
+>>> book = ((("la", 1), (1, "lu")), (("a",), ("b",), ("c",)))
+>>> replace_verse(book, 1, 2, (0,))
+raises BadBook(refrain=1, verse=2)
+"""
+
+SESSION = """
+>>> from sungbyturns.session import Session
+>>> book = ((('la', 1), ('lo',)), (('a',), ('b', 'c')))
+>>> session = Session(book)
+>>> session.next_word()
+'la'
+
+>>> from sungbyturns.session import Session
+>>> book = ((('la', 1), ('lo',)), (('a',), ('b', 'c')))
+>>> session = Session(book)
+>>> session.skip(4)
+'la'
+
+>>> from sungbyturns.session import Session
+>>> book = ((('la', 1), ('lo',)), (('a',), ('b', 'c')))
+>>> session = Session(book)
+>>> session.skip(-1)
+raises BadCount
+
+>>> from sungbyturns.session import Session
+>>> book = ((('la', 1), ('lo',)), (('a',), ('b', 'c')))
+>>> session = Session(book)
+>>> session.set_turn(1, 1)
+>>> session.skip(2)
+'b'
+
+>>> from sungbyturns.session import Session
+>>> book = ((('la', 1), ('lo',)), (('a',), ('b', 'c')))
+>>> session = Session(book)
+>>> session.skip(5)
+>>> session.set_turn(1, 0)
+raises RefrainBusy
+
+>>> from sungbyturns.session import Session
+>>> book = ((('la', 1), ('lo',)), (('a',), ('b', 'c')))
+>>> session = Session(book)
+>>> session.skip(5)
+>>> session.stop_song()
+>>> session.current_state()
+((1, 0), ())
+
+>>> from sungbyturns.session import Session
+>>> book = ((('la', 1), ('lo',)), (('a',), ('b', 'c')))
+>>> session = Session(book)
+>>> session.replace_verse(1, 0, ('x', 'y'))
+>>> session.skip(3)
+'y'
+
+>>> from sungbyturns.session import Session
+>>> book = ((('la', 1), ('lo',)), (('a',), ('b', 'c')))
+>>> session = Session(book)
+>>> session.replace_verse(1, 0, (1,))
+raises BadBook(refrain=1, verse=0)
+
+>>> from sungbyturns.session import Session
+>>> book = ((('la', 1), ('lo',)), (('a',), ('b', 'c')))
+>>> session = Session(book)
+>>> session.create_branch('b')
+>>> session.current_branch()
+'b'
+
+>>> from sungbyturns.session import Session
+>>> book = ((('la', 1), ('lo',)), (('a',), ('b', 'c')))
+>>> session = Session(book)
+>>> session.create_branch('main')
+raises BadBranch(name='main')
+
+>>> from sungbyturns.session import Session
+>>> book = ((('la', 1), ('lo',)), (('a',), ('b', 'c')))
+>>> session = Session(book)
+>>> session.switch_branch('c')
+raises NoBranch(name='c')
+
+>>> from sungbyturns.session import Session
+>>> book = ((('la', 1), ('lo',)), (('a',), ('b', 'c')))
+>>> session = Session(book)
+>>> session.delete_branch('main')
+raises BadBranch(name='main')
+
+>>> from sungbyturns.session import Session
+>>> book = ((('la', 1), ('lo',)), (('a',), ('b', 'c')))
+>>> session = Session(book)
+>>> session.skip(4)
+>>> session.undo()
+>>> session.word_count()
+0
+
+>>> from sungbyturns.session import Session
+>>> book = ((('la', 1), ('lo',)), (('a',), ('b', 'c')))
+>>> session = Session(book)
+>>> session.undo()
+False
+
+>>> from sungbyturns.session import Session
+>>> book = ((('la', 1), ('lo',)), (('a',), ('b', 'c')))
+>>> session = Session(book)
+>>> session.apply([('skip', 3), ('next_word',)])
+['lo', 'la']
+
+>>> from sungbyturns.session import Session
+>>> book = ((('la', 1), ('lo',)), (('a',), ('b', 'c')))
+>>> session = Session(book)
+>>> session.apply([('skip', 3), ('fly',)])
+raises BadOperation(index=1)
+
+>>> from sungbyturns.session import Session
+>>> book = ((('la', 1), ('lo',)), (('a',), ('b', 'c')))
+>>> session = Session(book)
+>>> session.skip(4)
+>>> session.undo()
+>>> session.history()
+[('skip', 4), ('undo',)]
+
+>>> from sungbyturns.session import Session
+>>> book = ((('la', 1), ('lo',)), (('a',), ('b', 'c')))
+>>> session = Session(book)
+>>> session.create_branch('b')
+>>> session.branches()
+['b', 'main']
+
+>>> from sungbyturns.session import Session
+>>> book = ((('la', 1), ('lo',)), (('a',), ('b', 'c')))
+>>> session = Session(book)
+>>> session.skip(4)
+>>> [session.current_state(), session.word_count()]
+[((1, 1), ((0, 0, 1),)), 4]
+
+>>> from sungbyturns.session import Session
+>>> book = ((('la', 1), ('lo',)), (('a',), ('b', 'c')))
+>>> session = Session(book)
+>>> session.create_branch('b')
+>>> session.next_word()
+>>> session.difference_from('main')
+1
+
+>>> from sungbyturns.session import replay
+>>> book = ((('la', 1), ('lo',)), (('a',), ('b', 'c')))
+>>> replay(book, [('skip', 3)]).word_count()
+3
+
+>>> from sungbyturns.session import replay
+>>> book = ((('la', 1), ('lo',)), (('a',), ('b', 'c')))
+>>> replay(book, [('skip', 3), ('skip', -1)])
+raises BadOperation(index=1)
+"""
+
+COMPILER = """
+>>> from sungbyturns.compiler import compile_source
+>>> compile_source('Song = la R(#2) / lo; R(#n) = #n*a / b;')
+((('la', 1), ('lo',)), (('a', 'a'), ('b',)))
+
+>>> from sungbyturns.compiler import compile_source
+>>> compile_source('Song = la )')
+raises BadSource(row=0, column=10)
+
+>>> from sungbyturns.compiler import compile_source
+>>> compile_source('Song = R;')
+raises BadProgram(reason='undefined', row=0, column=7)
+"""
+
 
 class ExamplesTest(unittest.TestCase):
     def test_books(self):
@@ -160,6 +359,18 @@ class ExamplesTest(unittest.TestCase):
 
     def test_simplifying(self):
         check_examples(self, SIMPLIFYING)
+
+    def test_inference(self):
+        check_examples(self, INFERENCE)
+
+    def test_editing(self):
+        check_examples(self, EDITING)
+
+    def test_session(self):
+        check_examples(self, SESSION)
+
+    def test_compiler(self):
+        check_examples(self, COMPILER)
 
 
 if __name__ == "__main__":

@@ -34,6 +34,35 @@ FUNCTIONS = {
         "simplify": ["book", "turns"],
         "first_difference": ["book", "state", "other_book", "other_state", "count"],
     },
+    "inference": {"infer_turns": ["book", "words"]},
+    "editing": {
+        "set_turn": ["book", "state", "refrain", "verse"],
+        "stop_song": ["book", "state"],
+        "replace_verse": ["book", "refrain", "verse", "items"],
+    },
+    "session": {"replay": ["book", "operations"]},
+    "compiler": {"compile_source": ["source"]},
+}
+
+SESSION = {
+    "__init__": ["self", "book"],
+    "next_word": ["self"],
+    "skip": ["self", "count"],
+    "set_turn": ["self", "refrain", "verse"],
+    "stop_song": ["self"],
+    "replace_verse": ["self", "refrain", "verse", "items"],
+    "create_branch": ["self", "name"],
+    "switch_branch": ["self", "name"],
+    "delete_branch": ["self", "name"],
+    "undo": ["self"],
+    "apply": ["self", "operations"],
+    "history": ["self"],
+    "branches": ["self"],
+    "current_branch": ["self"],
+    "current_book": ["self"],
+    "current_state": ["self"],
+    "word_count": ["self"],
+    "difference_from": ["self", "name"],
 }
 
 
@@ -46,6 +75,15 @@ class InterfaceTest(unittest.TestCase):
                     function = getattr(module, name)
                     self.assertEqual(function.__module__, module.__name__)
                     self.assertEqual(list(inspect.signature(function).parameters), parameters)
+
+    def test_session(self):
+        module = importlib.import_module("sungbyturns.session")
+        self.assertEqual(module.Session.__module__, module.__name__)
+        for name, parameters in SESSION.items():
+            with self.subTest(name=name):
+                # In the class itself, not in one above it.
+                method = vars(module.Session)[name]
+                self.assertEqual(list(inspect.signature(method).parameters), parameters)
 
 
 if __name__ == "__main__":

@@ -5,12 +5,17 @@ import unittest
 
 from sungbyturns.books import reachable_refrains
 from sungbyturns.certificates import check_certificate, count_by_certificate, make_certificate, max_deviation
+from sungbyturns.compiler import compile_source
+from sungbyturns.editing import replace_verse, set_turn, stop_song
 from sungbyturns.errors import SongError
+from sungbyturns.inference import infer_turns
 from sungbyturns.periods import advance_songs, average_length, frequencies, period
 from sungbyturns.positions import advance, count_words, find_start, find_word, word_at
 from sungbyturns.rewinding import rewind
+from sungbyturns.session import Session, replay
 from sungbyturns.simplifying import first_difference, simplify
 from sungbyturns.states import initial_state, next_words
+from tests.plain_session import view_of
 from tests.sample_books import NESTED, SONG, thicket
 
 MIDDLE = ((1, 1, 0, 0), ((0, 0, 1), (1, 0, 1)))
@@ -19,6 +24,21 @@ CERTIFICATE = make_certificate(NESTED, "x")
 # Well formed, but of another word than the calls below name.
 OTHER_CERTIFICATE = make_certificate(NESTED, "fa")
 FAR = 10 ** 18
+OPERATIONS = (
+    ("skip", FAR), ("create_branch", "b"), ("stop_song",), ("replace_verse", 1, 1, ["x", 3]), ("set_turn", 3, 1),
+    ("undo",), ("next_word",), ("switch_branch", "main"), ("skip", 0), ("delete_branch", "b"),
+)
+SOURCE = "A = R(#2, x) B / [#1 < 2 ? B : ]; R(#n, X) = #n * X; B = b;"
+
+
+def view_of_replay(book, operations):
+    return view_of(replay(book, operations))
+
+
+def view_of_applied(book, operations):
+    session = Session(book)
+    return session.apply(operations), view_of(session), session.difference_from("main")
+
 
 CALLS = (
     (reachable_refrains, (NESTED,)),
@@ -53,6 +73,15 @@ CALLS = (
     (simplify, (NESTED, TURNS)),
     (first_difference, (NESTED, MIDDLE, SONG, ((0, 0), ()), 5000)),
     (first_difference, (NESTED, MIDDLE, NESTED, MIDDLE, 100)),
+    (infer_turns, (NESTED, ["do", "x"])),
+    (infer_turns, (NESTED, [])),
+    (infer_turns, (NESTED, ["never"])),
+    (set_turn, (NESTED, MIDDLE, 3, 1)),
+    (stop_song, (NESTED, MIDDLE)),
+    (replace_verse, (NESTED, 1, 0, ("x", 3))),
+    (view_of_replay, (NESTED, list(OPERATIONS))),
+    (view_of_applied, (NESTED, OPERATIONS)),
+    (compile_source, (SOURCE,)),
 )
 
 WRONG_CALLS = (
@@ -74,6 +103,16 @@ WRONG_CALLS = (
     (max_deviation, ((((0,),),), "x")),
     (simplify, (NESTED, TURNS + (0,))),
     (first_difference, (NESTED, MIDDLE, SONG, ((0, 0), ()), 5001)),
+    (infer_turns, (NESTED, ["do"] * 61)),
+    (infer_turns, (thicket(), ["r", "r", "a", "q"])),
+    (set_turn, (NESTED, MIDDLE, 0, 0)),
+    (stop_song, (NESTED, (MIDDLE[0], ((0, 0, 2), (1, 0, 1))))),
+    (replace_verse, (NESTED, 1, 0, ("x", 1))),
+    (view_of_replay, (NESTED, list(OPERATIONS) + [("skip", -1)])),
+    (view_of_applied, (NESTED, OPERATIONS + (("skip", -1),))),
+    (view_of_applied, (NESTED, OPERATIONS + (("skip",),))),
+    (compile_source, (SOURCE + "A",)),
+    (compile_source, (SOURCE + "A = a;",)),
 )
 
 
@@ -160,6 +199,28 @@ class WholeTest(unittest.TestCase):
         self.assertEqual({type(verses) for verses in (book,) + book}, {tuple})
         self.assertEqual({type(verse) for verses in book for verse in verses}, {tuple})
         self.assertIs(type(first_difference(NESTED, MIDDLE, SONG, ((0, 0), ()), 5000)), int)
+
+    def test_kinds_of_values_of_other_books(self):
+        inferred = infer_turns(SONG, ["c"])
+        self.assertIs(type(inferred), tuple)
+        self.assertEqual([type(part) for part in inferred], [int, tuple, list])
+        self.check_state(set_turn(NESTED, MIDDLE, 3, 1))
+        self.check_state(stop_song(NESTED, MIDDLE))
+        for book in (replace_verse(NESTED, 1, 0, ("x", 3)), compile_source(SOURCE)):
+            self.assertEqual({type(verses) for verses in (book,) + book}, {tuple})
+            self.assertEqual({type(verse) for verses in book for verse in verses}, {tuple})
+
+    def test_kinds_of_values_of_sessions(self):
+        session = Session(NESTED)
+        session.apply(OPERATIONS[:-1])
+        self.check_state(session.current_state())
+        self.assertIs(type(session.history()), list)
+        self.assertEqual({type(told) for told in session.history()}, {tuple})
+        self.assertEqual(session.history()[3], ("replace_verse", 1, 1, ("x", 3)))
+        self.assertIs(type(session.branches()), list)
+        self.assertIs(type(session.word_count()), int)
+        self.assertIs(type(session.current_book()), tuple)
+        self.assertIs(type(replay(NESTED, session.history())), Session)
 
     def check_integers(self, values, many):
         self.assertIs(type(values), tuple)

@@ -6,14 +6,19 @@ MOST_REFRAINS = 60
 MOST_VERSES = 4
 MOST_ITEMS = 6
 LONGEST_WORD = 8
+LETTERS = "abcdefghijklmnopqrstuvwxyz"
 
 
 def is_word(item):
     return isinstance(item, str)
 
 
+def are_letters(text):
+    return all(["a" <= letter <= "z" for letter in text])
+
+
 def is_valid_word(text):
-    return 1 <= len(text) <= LONGEST_WORD and all(["a" <= letter <= "z" for letter in text])
+    return 1 <= len(text) <= LONGEST_WORD and are_letters(text)
 
 
 def is_valid_item(book, refrain, item):
@@ -55,6 +60,11 @@ def check_number(book, refrain):
 def called_refrains(verses):
     """Return the refrains among the items of verses, one for each item."""
     return [item for verse in verses for item in verse if not is_word(item)]
+
+
+def replace_refrains(verses, table):
+    """Return the verses with each refrain replaced by what a list or dict has for its number."""
+    return tuple([tuple([item if is_word(item) else table[item] for item in verse]) for verse in verses])
 
 
 def reachable_refrains(book):

@@ -1,16 +1,11 @@
 """Simplifying books, and comparing what two books sing."""
 
-from sungbyturns.books import check_book, is_word, reachable_refrains
+from sungbyturns.books import check_book, reachable_refrains, replace_refrains
 from sungbyturns.counts import check_count
 from sungbyturns.singing import Singer
 from sungbyturns.states import check_state, check_turns
 
 MOST_COMPARED = 5000
-
-
-def replace_refrains(verses, table):
-    """Return the verses with each refrain replaced by what a list or dict has for its number."""
-    return tuple([tuple([item if is_word(item) else table[item] for item in verse]) for verse in verses])
 
 
 def shortest_round(verses):

@@ -337,6 +337,114 @@ raises BadSource(row=0, column=10)
 raises BadProgram(reason='undefined', row=0, column=7)
 """
 
+PRINTER = r"""
+>>> from sungbyturns.printer import to_source
+>>> book = ((('la', 1), ('lo',)), (('a',), ('b', 'c')))
+>>> to_source(book)
+'A = la B / lo;\nB = a / b c;'
+"""
+
+PLAIN_TEXT = r"""
+>>> from sungbyturns.plain_text import format_book
+>>> book = ((('la', 1), ('lo',)), (('a',), ('b', 'c')))
+>>> format_book(book)
+'la 1 / lo\na / b c'
+
+>>> from sungbyturns.plain_text import parse_book
+>>> parse_book('la 1\na')
+((('la', 1),), (('a',),))
+
+>>> from sungbyturns.plain_text import parse_book
+>>> parse_book('la 1\n/ a')
+raises BadText(row=1)
+
+>>> from sungbyturns.plain_text import parse_book
+>>> parse_book('la 1')
+raises BadBook(refrain=0, verse=0)
+
+>>> from sungbyturns.plain_text import format_state
+>>> format_state(((1, 0), ((0, 0, 1), (1, 1, 1))))
+'turns 1 0\npath 0.0.1 1.1.1'
+
+>>> from sungbyturns.plain_text import parse_state
+>>> parse_state('turns 1 0\npath')
+((1, 0), ())
+
+>>> from sungbyturns.plain_text import parse_state
+>>> parse_state('turns 1 x\npath')
+raises BadText(row=0)
+"""
+
+BINARY = """
+>>> from sungbyturns.binary import pack_bytes
+>>> pack_bytes([66, 67])
+b'BC'
+
+>>> from sungbyturns.binary import pack_bytes
+>>> pack_bytes([256])
+raises BadCount
+
+>>> from sungbyturns.binary import pack_bytes, unpack_bytes
+>>> unpack_bytes(pack_bytes([66, 67]))
+[66, 67]
+
+>>> from sungbyturns.binary import encode_book, unpack_bytes
+>>> unpack_bytes(encode_book(((('a',),),)))
+[66, 1, 1, 1, 1, 97, 167]
+
+>>> from sungbyturns.binary import decode_book, pack_bytes
+>>> decode_book(pack_bytes([66, 1, 1, 1, 1, 97, 167]))
+((('a',),),)
+
+>>> from sungbyturns.binary import decode_book, pack_bytes
+>>> decode_book(pack_bytes([66, 1, 1, 1, 1, 96, 166]))
+raises BadData(offset=5)
+
+>>> from sungbyturns.binary import encode_state, unpack_bytes
+>>> unpack_bytes(encode_state(((('a', 'b'),),), ((0,), ((0, 0, 1),))))
+[83, 1, 0, 1, 0, 0, 1, 86]
+
+>>> from sungbyturns.binary import decode_state, pack_bytes
+>>> decode_state(((('a', 'b'),),), pack_bytes([83, 1, 0, 0, 84]))
+((0,), ())
+
+>>> from sungbyturns.binary import decode_state, pack_bytes
+>>> decode_state(((('a', 'b'),),), pack_bytes([83, 1, 1, 0, 85]))
+raises BadState
+"""
+
+JOURNAL = """
+>>> from sungbyturns.binary import unpack_bytes
+>>> from sungbyturns.journal import encode_operation
+>>> unpack_bytes(encode_operation(('skip', 300)))
+[0, 3, 107, 172, 2, 33]
+
+>>> from sungbyturns.journal import encode_operation
+>>> encode_operation(('skip', -1))
+raises BadOperation(index=0)
+
+>>> from sungbyturns.binary import unpack_bytes
+>>> from sungbyturns.journal import encode_journal
+>>> unpack_bytes(encode_journal(((('a',),),), [('undo',)]))
+[66, 1, 1, 1, 1, 97, 167, 0, 1, 117, 118]
+
+>>> from sungbyturns.binary import pack_bytes
+>>> from sungbyturns.journal import record_ends
+>>> record_ends(pack_bytes([66, 1, 1, 1, 1, 97, 167, 0, 1, 117, 118, 0]))
+[7, 11]
+
+>>> from sungbyturns.binary import pack_bytes
+>>> from sungbyturns.journal import recover
+>>> session, rest = recover(pack_bytes([66, 1, 1, 1, 1, 97, 167, 0, 1, 110, 111, 0, 1]))
+>>> [session.word_count(), rest]
+[1, 2]
+
+>>> from sungbyturns.binary import pack_bytes
+>>> from sungbyturns.journal import recover
+>>> recover(pack_bytes([66, 1, 1, 1, 1, 97, 167, 0, 1, 120, 121]))
+raises BadRecord(index=0)
+"""
+
 
 class ExamplesTest(unittest.TestCase):
     def test_books(self):
@@ -371,6 +479,18 @@ class ExamplesTest(unittest.TestCase):
 
     def test_compiler(self):
         check_examples(self, COMPILER)
+
+    def test_printer(self):
+        check_examples(self, PRINTER)
+
+    def test_plain_text(self):
+        check_examples(self, PLAIN_TEXT)
+
+    def test_binary(self):
+        check_examples(self, BINARY)
+
+    def test_journal(self):
+        check_examples(self, JOURNAL)
 
 
 if __name__ == "__main__":

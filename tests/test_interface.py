@@ -42,6 +42,27 @@ FUNCTIONS = {
     },
     "session": {"replay": ["book", "operations"]},
     "compiler": {"compile_source": ["source"]},
+    "printer": {"to_source": ["book"]},
+    "plain_text": {
+        "format_book": ["book"],
+        "parse_book": ["text"],
+        "format_state": ["state"],
+        "parse_state": ["text"],
+    },
+    "binary": {
+        "pack_bytes": ["values"],
+        "unpack_bytes": ["data"],
+        "encode_book": ["book"],
+        "decode_book": ["data"],
+        "encode_state": ["book", "state"],
+        "decode_state": ["book", "data"],
+    },
+    "journal": {
+        "encode_operation": ["operation"],
+        "encode_journal": ["book", "operations"],
+        "record_ends": ["data"],
+        "recover": ["data"],
+    },
 }
 
 SESSION = {

@@ -3,14 +3,18 @@
 import copy
 import unittest
 
+from sungbyturns.binary import decode_book, decode_state, encode_book, encode_state, pack_bytes, unpack_bytes
 from sungbyturns.books import reachable_refrains
 from sungbyturns.certificates import check_certificate, count_by_certificate, make_certificate, max_deviation
 from sungbyturns.compiler import compile_source
 from sungbyturns.editing import replace_verse, set_turn, stop_song
 from sungbyturns.errors import SongError
 from sungbyturns.inference import infer_turns
+from sungbyturns.journal import encode_journal, encode_operation, record_ends, recover
 from sungbyturns.periods import advance_songs, average_length, frequencies, period
+from sungbyturns.plain_text import format_book, format_state, parse_book, parse_state
 from sungbyturns.positions import advance, count_words, find_start, find_word, word_at
+from sungbyturns.printer import to_source
 from sungbyturns.rewinding import rewind
 from sungbyturns.session import Session, replay
 from sungbyturns.simplifying import first_difference, simplify
@@ -39,6 +43,15 @@ def view_of_applied(book, operations):
     session = Session(book)
     return session.apply(operations), view_of(session), session.difference_from("main")
 
+
+def view_of_recovered(data):
+    session, rest = recover(data)
+    return view_of(session), rest
+
+
+BOOK_DATA = encode_book(NESTED)
+STATE_DATA = encode_state(NESTED, MIDDLE)
+JOURNAL_DATA = encode_journal(NESTED, OPERATIONS)
 
 CALLS = (
     (reachable_refrains, (NESTED,)),
@@ -82,6 +95,22 @@ CALLS = (
     (view_of_replay, (NESTED, list(OPERATIONS))),
     (view_of_applied, (NESTED, OPERATIONS)),
     (compile_source, (SOURCE,)),
+    (to_source, (NESTED,)),
+    (format_book, (NESTED,)),
+    (parse_book, ("a 1 / 1 b\nc",)),
+    (format_state, (MIDDLE,)),
+    (parse_state, ("turns 0 1\npath 0.0.1",)),
+    (pack_bytes, ([1, 2, 255],)),
+    (unpack_bytes, (BOOK_DATA,)),
+    (encode_book, (NESTED,)),
+    (decode_book, (BOOK_DATA,)),
+    (encode_state, (NESTED, MIDDLE)),
+    (decode_state, (NESTED, STATE_DATA)),
+    (encode_operation, (("replace_verse", 1, 1, ["x", 3]),)),
+    (encode_journal, (NESTED, list(OPERATIONS))),
+    (record_ends, (JOURNAL_DATA,)),
+    (view_of_recovered, (JOURNAL_DATA,)),
+    (view_of_recovered, (JOURNAL_DATA[:-1],)),
 )
 
 WRONG_CALLS = (
@@ -113,6 +142,20 @@ WRONG_CALLS = (
     (view_of_applied, (NESTED, OPERATIONS + (("skip",),))),
     (compile_source, (SOURCE + "A",)),
     (compile_source, (SOURCE + "A = a;",)),
+    (to_source, ((((0,),),),)),
+    (format_book, ((((0,),),),)),
+    (parse_book, ("a\n/",)),
+    (parse_book, ("a 1",)),
+    (parse_state, ("turns 0",)),
+    (pack_bytes, ([1, 256],)),
+    (encode_book, ((((0,),),),)),
+    (decode_book, (BOOK_DATA[:-1],)),
+    (encode_state, (NESTED, (MIDDLE[0], ((0, 0, 2), (1, 0, 1))))),
+    (decode_state, (NESTED, BOOK_DATA)),
+    (encode_operation, (("replace_verse", 1, 1, ["x", 60]),)),
+    (encode_journal, (NESTED, list(OPERATIONS) + [("skip", -1)])),
+    (record_ends, (BOOK_DATA[1:],)),
+    (view_of_recovered, (encode_journal(NESTED, OPERATIONS + (("delete_branch", "main"),)),)),
 )
 
 
@@ -209,6 +252,19 @@ class WholeTest(unittest.TestCase):
         for book in (replace_verse(NESTED, 1, 0, ("x", 3)), compile_source(SOURCE)):
             self.assertEqual({type(verses) for verses in (book,) + book}, {tuple})
             self.assertEqual({type(verse) for verses in book for verse in verses}, {tuple})
+
+    def test_kinds_of_values_of_texts_and_bytes(self):
+        for text in (to_source(NESTED), format_book(NESTED), format_state(MIDDLE)):
+            self.assertIs(type(text), str)
+        for data in (pack_bytes([]), BOOK_DATA, STATE_DATA, JOURNAL_DATA, encode_operation(("undo",))):
+            self.assertIs(type(data), bytes)
+        for book in (parse_book(format_book(NESTED)), decode_book(BOOK_DATA)):
+            self.assertEqual({type(verses) for verses in (book,) + book}, {tuple})
+            self.assertEqual({type(verse) for verses in book for verse in verses}, {tuple})
+        self.check_state(parse_state(format_state(MIDDLE)))
+        self.check_state(decode_state(NESTED, STATE_DATA))
+        self.assertIs(type(record_ends(JOURNAL_DATA)), list)
+        self.assertEqual([type(part) for part in recover(JOURNAL_DATA)], [Session, int])
 
     def test_kinds_of_values_of_sessions(self):
         session = Session(NESTED)

@@ -23,6 +23,7 @@ INITIALS = {
 # The bytes of a record before and behind its payload.
 BYTES_BEFORE = 2
 BYTES_BEHIND = 1
+# A number is written in groups of seven bits.
 GROUP = 128
 MOST_GROUPS = 9
 

@@ -1,6 +1,6 @@
 """Sessions: a song that is sung on branches, with a history that can be undone."""
 
-from sungbyturns.books import check_number, is_valid_word, is_word
+from sungbyturns.books import is_valid_word, is_word
 from sungbyturns.counts import MOST, check_count
 from sungbyturns.editing import check_idle, rewritten, stopped, turned
 from sungbyturns.errors import BadBranch, BadOperation, NoBranch, SongError
@@ -60,7 +60,7 @@ class Session:
     def replace_verse(self, refrain, verse, items):
         """Replace a verse in the book of the current branch."""
         book, state, words = self._branches[self._current]
-        check_number(book, refrain)
+        # A refrain that does not exist is never busy, so BadRefrain still comes first.
         check_idle(state, refrain)
         book = rewritten(book, refrain, verse, items)
         self._change_current(("replace_verse", refrain, verse, tuple(items)), (book, state, words))

@@ -23,7 +23,8 @@ def is_item(book, refrain, item):
 
 class PlainSession:
     def __init__(self, book):
-        self.now = {"current": "main", "branches": {"main": {"book": book, "state": ((0,) * len(book), ()), "words": 0}}}
+        branch = {"book": book, "state": ((0,) * len(book), ()), "words": 0}
+        self.now = {"current": "main", "branches": {"main": branch}}
         self.before = []
         self.told = []
 

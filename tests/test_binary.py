@@ -10,6 +10,8 @@ from tests.sample_books import NESTED, SONG, medley, random_book, random_state, 
 
 SMALL = ((("a",),),)
 BAD_BOOK = ((("a", 1),),)
+# Bytes at and beyond the limits of the point.
+EDGES = (0, 1, 3, 4, 5, 6, 7, 8, 9, 59, 60, 61, 96, 97, 122, 123, 127, 128, 187, 188, 255)
 # The deepest path: all refrains, each but the last one in front of the next one.
 DEEP = tuple(((number + 1, "x"),) for number in range(59)) + ((("x", "y"),),)
 DEEP_STATE = ((0,) * 60, tuple((number, 0, 0) for number in range(59)) + ((59, 0, 1),))
@@ -22,7 +24,7 @@ def damaged(chance, data):
         at = chance.randrange(len(values) + 1)
         kind = chance.choice(("change", "change", "nudge", "remove", "add", "cut"))
         if kind == "change":
-            values[at:at + 1] = [chance.choice((0, 1, 3, 4, 5, 6, 9, 59, 60, 96, 97, 122, 123, 127, 128, 187, 188, 255))]
+            values[at:at + 1] = [chance.choice(EDGES)]
         elif kind == "nudge":
             values[at:at + 1] = [(value + chance.choice((1, 255))) % 256 for value in values[at:at + 1]]
         elif kind == "remove":
@@ -87,7 +89,8 @@ class BookTest(BytesCase):
 
     def test_there_and_back(self):
         chance = random.Random(25)
-        for book in [SONG, NESTED, medley(), sieve(), thicket(), tower(), DEEP] + [random_book(chance) for _ in range(200)]:
+        books = [SONG, NESTED, medley(), sieve(), thicket(), tower(), DEEP]
+        for book in books + [random_book(chance) for _ in range(200)]:
             data = encode_book(book)
             self.assertIs(type(data), bytes)
             self.assertEqual(data, book_bytes(book))

@@ -186,7 +186,8 @@ class GrammarTest(CompilerCase):
         self.check_reason("nesting", "A = " + nested(["R"] * 13 + ["@R"] + ["R"] * 6, "a") + "; R(X) = X;")
 
     def test_long_sources(self):
-        definitions = [f"R{letter}{other} = x;" for letter in "abcdefghijklmnopqrst" for other in "abcdefghijklmnopqrst"]
+        letters = "abcdefghijklmnopqrst"
+        definitions = [f"R{letter}{other} = x;" for letter in letters for other in letters]
         text = "A = Rab Rcd;\n" + "\n".join(definitions) + "\n"
         self.check_book(text, (((1, 2),), (("x",),), (("x",),)))
         total = "+ 1 - 1 " * 20000
@@ -307,7 +308,10 @@ class EvaluationTest(CompilerCase):
 
     def test_parameters(self):
         self.check_book("A = R(x, B); R(X, Y) = X Y X; B = b;", (((1,),), (("x", 2, "x"),), (("b",),)))
-        self.check_book("A = R(S(T(x))); R(X) = X; S(X) = X X; T(X) = X X X;", (((1,),), ((2,),), ((3, 3),), (("x",) * 3,)))
+        self.check_book(
+            "A = R(S(T(x))); R(X) = X; S(X) = X X; T(X) = X X X;",
+            (((1,),), ((2,),), ((3, 3),), (("x", "x", "x"),)),
+        )
         self.check_book(
             "A = R(#3); R(#n) = #n * x [#n > 1 ? R(#n - 1) : ];",
             (((1,),), (("x", "x", "x", 2),), (("x", "x", 3),), (("x",),)),

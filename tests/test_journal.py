@@ -11,7 +11,7 @@ from tests.plain_bytes import (
     book_bytes, complete_ends, journal_bytes, number_values, operation_of, payload_values, record,
 )
 from tests.plain_session import view_of
-from tests.sample_books import NESTED, SONG, random_book
+from tests.sample_books import NESTED, random_book
 from tests.sample_operations import perform, random_operation
 
 MOST = 10 ** 18
@@ -113,7 +113,8 @@ class EncodeTest(unittest.TestCase):
         self.assertEqual(encode_journal(SMALL, []), START)
         self.assertEqual(encode_journal(NESTED, OPERATIONS), journal_bytes(NESTED, OPERATIONS))
         self.assertEqual(encode_journal(NESTED, list(OPERATIONS)), journal_bytes(NESTED, OPERATIONS))
-        self.assertEqual(encode_journal(NESTED, OPERATIONS), encode_book(NESTED) + b"".join(map(encode_operation, OPERATIONS)))
+        records = b"".join(encode_operation(operation) for operation in OPERATIONS)
+        self.assertEqual(encode_journal(NESTED, OPERATIONS), encode_book(NESTED) + records)
 
     def test_operations_need_not_be_possible(self):
         operations = [("undo",), ("set_turn", 59, 9), ("delete_branch", "main"), ("replace_verse", 7, 7, (0,))]
@@ -220,7 +221,8 @@ class RecoverTest(unittest.TestCase):
             with self.subTest(size=size):
                 self.assertEqual(record_ends(data[:size]), complete)
                 self.check_recovered(data[:size], NESTED, OPERATIONS[:len(complete) - 1], size - complete[-1])
-        for more in (b"\x00", b"\xff", b"\x00\x01u", b"\x00\x01\x75\x00", bytes(chance.randrange(9, 256) for _ in range(50))):
+        noise = bytes(chance.randrange(9, 256) for _ in range(50))
+        for more in (b"\x00", b"\xff", b"\x00\x01u", b"\x00\x01u\x00", noise):
             self.assertEqual(record_ends(data + more), ends)
             self.check_recovered(data + more, NESTED, OPERATIONS, len(more))
 
@@ -270,10 +272,10 @@ class RecoverTest(unittest.TestCase):
 
     def test_operations_that_fail(self):
         for operation in (
-            ("set_turn", 1, 0), ("set_turn", 0, 1), ("set_turn", MOST, 0), ("set_turn", 0, MOST), ("switch_branch", "b"),
-            ("create_branch", "main"), ("delete_branch", "main"), ("delete_branch", "b"), ("replace_verse", 1, 0, ("a",)),
-            ("replace_verse", 0, 1, ("a",)), ("replace_verse", 0, 0, (0,)), ("replace_verse", 0, 0, ("a", 1)),
-            ("replace_verse", 0, 0, (59,)),
+            ("set_turn", 1, 0), ("set_turn", 0, 1), ("set_turn", MOST, 0), ("set_turn", 0, MOST),
+            ("create_branch", "main"), ("switch_branch", "b"), ("delete_branch", "main"), ("delete_branch", "b"),
+            ("replace_verse", 1, 0, ("a",)), ("replace_verse", 0, 1, ("a",)), ("replace_verse", 0, 0, (0,)),
+            ("replace_verse", 0, 0, ("a", 1)), ("replace_verse", 0, 0, (59,)),
         ):
             self.check_bad_record(START + encode_operation(operation), 0)
             self.check_bad_record(encode_journal(SMALL, [("next_word",), ("undo",), operation, ("undo",)]), 2)
@@ -304,7 +306,8 @@ class RecoverTest(unittest.TestCase):
                     self.check_bad_record(data, 0)
         zero = [128] * 8 + [0]
         self.check_recovered(START + record([116] + zero + zero), SMALL, [("set_turn", 0, 0)])
-        self.check_recovered(START + record([114] + zero + [128, 0, 1, 1, 98]), SMALL, [("replace_verse", 0, 0, ("b",))])
+        data = START + record([114] + zero + [128, 0, 1, 1, 98])
+        self.check_recovered(data, SMALL, [("replace_verse", 0, 0, ("b",))])
         # Encoded again, they are gone.
         session, _ = recover(START + record([107, 133, 0]))
         self.assertEqual(encode_journal(SMALL, session.history()), START + record([107, 5]))

@@ -70,7 +70,9 @@ class BookTest(TextCase):
             self.assertEqual(format_book(parse_book(text)), text)
 
     def test_format_of_bad_books(self):
-        for book, place in (((), (0, -1)), (((("a",), ()),), (0, 1)), (((("a", 0),),), (0, 0)), (tower() * 2, (60, -1))):
+        for book, place in (
+            ((), (0, -1)), (((("a",), ()),), (0, 1)), (((("a", 0),),), (0, 0)), (tower() * 2, (60, -1)),
+        ):
             with self.assertRaises(BadBook) as caught:
                 format_book(book)
             self.assertEqual((caught.exception.refrain, caught.exception.verse), place)
@@ -78,7 +80,8 @@ class BookTest(TextCase):
     def test_bad_lines(self):
         for line in (
             "", " ", "/", " / ", "a ", " a", "a  b", "a /", "/ a", "a / ", " / a", "a / / b", "a /  / b", "a  / b",
-            "a /  b", "a/b", "a / b /", "a // b", "A", "aB", "a1", "1a", "a,b", "a-b", "a\tb", "a\r", "\u00e9", "\u0661",
+            "a /  b", "a/b", "a / b /", "a // b", "A", "aB", "a1", "1a", "a,b", "a-b", "a\tb", "a\r",
+            "\u00e9", "\u0661",
             "00", "01", "07", "007", "100", "999", "-1", "+1", "1.", "0x", "\u00b2",
         ):
             self.check_bad(parse_book, line, 0)
@@ -166,8 +169,8 @@ class StateTest(TextCase):
         for line in (
             "", " ", "path ", "path  0.0.0", "path 0.0.0 ", " path", "Path", "paths", "path0.0.0", "path 0", "path 0.0",
             "path 0.0.0.0", "path 0.0.", "path .0.0", "path 0..0", "path 00.0.0", "path 0.01.0", "path 0.0.100",
-            "path x.0.0", "path 0.0.-1", "path 0 0 0", "path 0.0.0  1.0.0", "path 0,0,0", "path 0.0.0\t1.0.0", "turns 0",
-            "path\r",
+            "path x.0.0", "path 0.0.-1", "path 0 0 0", "path 0.0.0  1.0.0", "path 0,0,0", "path 0.0.0\t1.0.0",
+            "turns 0", "path\r",
         ):
             self.check_bad(parse_state, "turns 0\n" + line, 1)
             self.check_bad(parse_state, "turns 0 1\n" + line + "\n", 1)

@@ -32,7 +32,8 @@ class PrinterTest(unittest.TestCase):
     def test_lines(self):
         self.assertEqual(to_source(((("a",),),)), "A = a;")
         self.assertEqual(to_source(SONG), "A = la B / B lu;\nB = a / b / c;")
-        self.assertEqual(to_source(((("abcdefgh",) * 6,) * 4,)), "A = " + " / ".join([" ".join(["abcdefgh"] * 6)] * 4) + ";")
+        verse = " ".join(["abcdefgh"] * 6)
+        self.assertEqual(to_source(((("abcdefgh",) * 6,) * 4,)), f"A = {verse} / {verse} / {verse} / {verse};")
 
     def test_refrains_that_are_never_sung(self):
         self.assertEqual(

@@ -116,7 +116,8 @@ class RoundTripsTest(unittest.TestCase):
             self.assertIsNone(first_difference(
                 written, initial_state(written), session.current_book(), session.current_state(), 5000,
             ))
-            self.assertEqual(words_of(written, initial_state(written)), words_of(session.current_book(), session.current_state()))
+            words = words_of(session.current_book(), session.current_state())
+            self.assertEqual(words_of(written, initial_state(written)), words)
 
     def with_verse(self, source, line, verse, text):
         """A printed source in which one verse of a line is written anew; refrains that this makes silent stay."""
@@ -140,10 +141,12 @@ class RoundTripsTest(unittest.TestCase):
         state = ((0,) * len(book), ())
         data = encode_journal(book, [("next_word",)])
         for call in (
-            lambda: compile_source(SOURCE), lambda: to_source(book), lambda: format_book(book), lambda: encode_book(book),
-            lambda: format_state(state), lambda: encode_state(book, state), lambda: record_ends(data),
-            lambda: view_of(recover(data)[0]), lambda: parse_book(format_book(book)), lambda: decode_book(encode_book(book)),
-            lambda: parse_state(format_state(state)), lambda: decode_state(book, encode_state(book, state)),
+            lambda: compile_source(SOURCE), lambda: to_source(book), lambda: record_ends(data),
+            lambda: view_of(recover(data)[0]),
+            lambda: format_book(book), lambda: parse_book(format_book(book)),
+            lambda: format_state(state), lambda: parse_state(format_state(state)),
+            lambda: encode_book(book), lambda: decode_book(encode_book(book)),
+            lambda: encode_state(book, state), lambda: decode_state(book, encode_state(book, state)),
         ):
             self.assertEqual(repr(call()), repr(call()))
 
